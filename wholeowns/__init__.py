@@ -1,0 +1,1 @@
+"""Who owns whom: people and companies that hold parts of one another."""

@@ -1,0 +1,6 @@
+"""The numbers that are answered alone when a call is refused."""
+
+NO_SUCH = -2
+BEFORE_BEGIN = -11
+NOT_RIGHT = -22
+CANNOT_BE = -33
