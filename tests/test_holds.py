@@ -1,105 +1,13 @@
-"""Point 6, and every answer against the document's words, worked out another way on many made-up registers."""
+"""Point 6 over many made-up registers, and what is told of each against the words worked out another way."""
 
-import random
 import unittest
 from fractions import Fraction
-from itertools import combinations
 
-from helper import GREATEST, ask_behind
+from helper import (
+    ask_behind, books, cheapest, come_out, everything, fractions_in, handed, holding, made_up, pair, pairs, parts_of,
+    reach, ruled, self_ruled, settled, taken)
 
-LOWERS = (1, 2, 3, 4, 5, 6, 10, 12, 20, 97, 100)
-
-
-def made_up(seed):
-    """Calls of a begin and holds; about every third company is wholly held, many by companies alone."""
-    chance = random.Random(seed)
-    m = chance.randint(1, 4)
-    n = chance.randint(1, 5)
-    calls = [("begin", m, n)]
-    for j in range(n):
-        left = Fraction(1)
-        first = m if chance.random() < 0.5 else 0
-        holders = chance.sample(range(first, m + n), chance.randint(0, m + n - first))
-        for h in holders:
-            b = chance.choice(LOWERS)
-            a = chance.randint(0, min(b, int(left * b)))
-            calls.append(("hold", h, j, a, b))
-            left -= Fraction(a, b)
-        if holders and left.denominator <= 100 and chance.random() < 0.6:
-            last = parts_of(calls, m, n)[j][holders[-1]] + left
-            if last.denominator <= 100:
-                calls.append(("hold", holders[-1], j, last.numerator, last.denominator))
-    return m, n, calls
-
-
-def parts_of(calls, m, n):
-    parts = [[Fraction(0)] * (m + n) for j in range(n)]
-    for name, *given in calls:
-        if name == "hold":
-            h, j, a, b = given
-            parts[j][h] = Fraction(a, b)
-    return parts
-
-
-def pair(fraction):
-    return [fraction.numerator, fraction.denominator]
-
-
-def come_out(parts, m, n):
-    """The companies from which some comes to a person or is strewn, in however many steps."""
-    out = set()
-    for step in range(n + 1):
-        for j in range(n):
-            stays = sum(parts[j][m:]) < 1
-            if stays or any(parts[j][m + i] > 0 for i in out):
-                out.add(j)
-    return sorted(out)
-
-
-def solved(matrix, right):
-    """Gauss, with the first row that fits put on top."""
-    rows = [list(row) + [value] for row, value in zip(matrix, right)]
-    for c in range(len(rows)):
-        top = next(r for r in range(c, len(rows)) if rows[r][c] != 0)
-        rows[c], rows[top] = rows[top], rows[c]
-        rows[c] = [value / rows[c][c] for value in rows[c]]
-        for r in range(len(rows)):
-            if r != c:
-                rows[r] = [x - rows[r][c] * y for x, y in zip(rows[r], rows[c])]
-    return [row[-1] for row in rows]
-
-
-def reach(parts, m, n, straight):
-    """Of each company what comes to where straight tells how much goes in one step."""
-    out = come_out(parts, m, n)
-    matrix = [[int(i == j) - parts[j][m + i] for i in out] for j in out]
-    found = dict(zip(out, solved(matrix, [straight[j] for j in out])))
-    return [found.get(j, Fraction(0)) for j in range(n)]
-
-
-def subsets(n):
-    return [set(chosen) for size in range(n + 1) for chosen in combinations(range(n), size)]
-
-
-def quorate(parts, m, quorum, j, people, companies):
-    votes = 1 - parts[j][m + j]
-    held = sum(parts[j][p] for p in people) + sum(parts[j][m + i] for i in companies if i != j)
-    return votes > 0 and held >= quorum * votes
-
-
-def ruled(parts, m, n, quorum, people):
-    """The fewest companies to which none can be added."""
-    for chosen in subsets(n):
-        if all(j in chosen or not quorate(parts, m, quorum, j, people, chosen) for j in range(n)):
-            return sorted(chosen)
-    raise AssertionError("all companies together can't be added to")
-
-
-def self_ruled(parts, m, n, quorum):
-    for chosen in reversed(subsets(n)):
-        if all(quorate(parts, m, quorum, j, (), chosen) for j in chosen):
-            return sorted(chosen)
-    raise AssertionError("none at all rule themselves")
+PRICES = ([100] * 5, [0, 1, 2, 3, 4], [1, 1, 1, 1, 50], [1000, 0, 7, 0, 7], [50, 1, 1, 1, 1], [9, 8, 7, 6, 5])
 
 
 class MadeUp(unittest.TestCase):
@@ -154,47 +62,143 @@ class MadeUp(unittest.TestCase):
                     [j for j in range(n) if told[j] == [-33]], sorted(free + themselves))
         self.assertGreater(min(seen), 20)
 
+    def test_the_cheapest_way_and_what_is_held_behind_it(self):
+        steps = [0] * 6
+        for seed in range(60):
+            m, n, calls = made_up(seed)
+            parts = parts_of(calls, m, n)
+            quorum = (Fraction(3, 5), Fraction(51, 100), Fraction(9, 10))[seed % 3]
+            prices = PRICES[seed % 6][:n]
+            calls = calls + [("quorum", quorum.numerator, quorum.denominator), ("prices", prices)]
+            for p, j in ((p, j) for p in range(m) for j in range(n)):
+                way = cheapest(parts, m, n, quorum, prices, p, j)
+                told = ask_behind(calls, ("cheapest", p, j), ("take", p, j), *[("holders", i) for i in range(n)])
+                with self.subTest(seed=seed, p=p, j=j):
+                    if way is None:
+                        self.assertEqual(told[:2], [[-33], [-33]])
+                        continue
+                    steps[way[1]] += 1
+                    self.assertEqual(told[1], [way[1], *pairs([way[0]])])
+                    self.assertEqual(told[0], told[1] + sum([[i] + pair(part) for i, part in zip(*way[2:])], []))
+                    self.assertEqual(told[2:], laid_out(taken(parts, m, n, quorum, p, way[2])))
+        self.assertGreater(min(steps[:3]), 10, steps)
+
+    def test_handed_out_and_settled(self):
+        for seed in range(200):
+            m, n, calls = made_up(seed)
+            parts = parts_of(calls, m, n)
+            with self.subTest(seed=seed):
+                for i in range(n):
+                    told = ask_behind(calls, ("hand", i), *[("holders", j) for j in range(n)])
+                    if parts[i][m + i] == 1:
+                        self.assertEqual(told, [[-33]] + laid_out(parts))
+                    else:
+                        self.assertEqual(told[1:], laid_out(handed(parts, m, i)))
+                told = ask_behind(calls, ("settle",), *[("holders", j) for j in range(n)])
+                self.assertEqual(told, [[len(holding(settled(parts, m), m))]] + laid_out(settled(parts, m)))
+
+    def test_books(self):
+        untold = 0
+        for seed in self.SEEDS:
+            m, n, calls = made_up(seed)
+            wealth = [1000, 0, 3, 77, 500][:n]
+            found = books(parts_of(calls, m, n), m, wealth)
+            untold += found is None
+            told = ask_behind(calls, ("own", wealth), ("books",), ("closed",))
+            self.assertEqual(told[1], [-33] if found is None else [n] + pairs(found))
+            self.assertEqual(found is None, told[2][0] > 0)
+        self.assertGreater(untold, 50)
+
+
+def laid_out(parts):
+    """What holders answers of each company."""
+    rows = [[[h] + pair(part) for h, part in enumerate(row) if part] for row in parts]
+    return [[len(row)] + sum(row, []) for row in rows]
+
+
+def made_up_own(seed):
+    m, n, calls = made_up(seed)
+    return m, n, calls + [("own", [(seed * 37 + 101 * j) % 1001 for j in range(n)])]
+
 
 class WhatHolds(unittest.TestCase):
+    def changes(self, m, n):
+        return [(), (("cancel", n - 1),), (("hand", 0),), (("settle",),), (("take", m - 1, 0),), (("take", 0, n - 1),)]
+
     def test_really_owned_strewn_and_lost_are_1(self):
-        for seed in range(400, 500):
+        for seed in range(400, 480):
             m, n, calls = made_up(seed)
-            for j in range(n):
-                told = ask_behind(calls, *[("real", p, j) for p in range(m)], ("realstrewn", j), ("lost", j))
-                self.assertEqual(sum(Fraction(upper, lower) for first, upper, lower in told), 1)
+            for change in self.changes(m, n):
+                for j in range(n):
+                    questions = [("real", p, j) for p in range(m)] + [("realstrewn", j), ("lost", j)]
+                    told = ask_behind(calls, *change, *questions)[len(change):]
+                    self.assertEqual(sum(fractions_in(answer[1:])[0] for answer in told), 1)
+                    self.assertEqual([answer[0] for answer in told], [0] * (m + 2))
+
+    def test_people_are_worth_the_same_by_books_and_by_real_parts(self):
+        told_by_books = 0
+        for seed in range(400, 600):
+            m, n, calls = made_up_own(seed)
+            for change in self.changes(m, n):
+                told = ask_behind(calls, *change, ("worths",), ("bookworths",))[len(change):]
+                if told[1] != [-33]:
+                    told_by_books += 1
+                    self.assertEqual(told[1], told[0])
+        self.assertGreater(told_by_books, 500)
+
+    def test_untied_nobody_gains_or_loses(self):
+        for seed in range(400, 500):
+            m, n, calls = made_up_own(seed)
+            questions = [("worths",)] + [("owned", p) for p in range(m)] + [("realstrewn", j) for j in range(n)]
+            before = ask_behind(calls, *questions)
+            for change in [("settle",)] + [(name, i) for name in ("cancel", "hand") for i in range(n)]:
+                self.assertEqual(ask_behind(calls, change, *questions)[1:], before)
+
+    def test_taken_it_is_ruled_by_who_took_it(self):
+        for seed in range(500, 600):
+            m, n, calls = made_up(seed)
+            calls = calls + [("prices", PRICES[seed % 6][:n])]
+            for p, j in ((p, j) for p in range(m) for j in range(n)):
+                told = ask_behind(calls, ("cheapest", p, j), ("take", p, j), ("ruler", j), ("votes", j), ("lacking", p, j))
+                if told[1] == [-33]:
+                    self.assertEqual(told[3], [0, 0, 1])
+                else:
+                    self.assertEqual(told[1], told[0][:3])
+                    self.assertEqual(told[2:3] + told[4:], [[p], [0, 0, 1]])
 
     def test_nobody_is_ruled_by_two(self):
         for seed in range(500, 600):
             m, n, calls = made_up(seed)
             calls = calls + [("quorum", 51, 100)]
-            told = ask_behind(calls, *[("rules", p) for p in range(m)], ("selfruled",))
-            companies = [j for answer in told for j in answer[1:]]
-            self.assertEqual(len(companies), len(set(companies)))
+            for change in self.changes(m, n):
+                told = ask_behind(calls, *change, *[("rules", p) for p in range(m)], ("selfruled",))[len(change):]
+                companies = [j for answer in told for j in answer[1:]]
+                self.assertEqual(len(companies), len(set(companies)))
 
-    def test_what_is_refused_changes_nothing(self):
-        refused = (
-            ("hold", 0, 0, 1, 101), ("hold", 0, 0, 2, 1), ("hold", 9, 0, 0, 1), ("hold", 0, GREATEST, 0, 1),
-            ("hold", 0, 0, 0, 0), ("begin", 5, 1), ("begin", 0, 0), ("quorum", 1, 2), ("quorum", 3, 2), ("prices", []),
-            ("prices", [1001]), ("real", 9, 0), ("ruler", 9), ("rules", 9), ("votes", 9), ("greatest", 9),
-        )
-        for seed in range(600, 620):
+    def test_settled_each_has_straight_what_they_really_owned(self):
+        nothing_lost = 0
+        for seed in range(600, 800):
             m, n, calls = made_up(seed)
-            questions = [("state",), ("rings",), ("closed",), ("selfruled",), ("free",), ("owned", m - 1), ("rules", 0)]
-            questions += [("holders", j) for j in range(n)]
-            before = ask_behind(calls, *questions)
-            for call in refused:
-                told = ask_behind(calls, call, *questions)
-                self.assertEqual(len(told[0]), 1)
-                self.assertLess(told[0][0], 0)
-                self.assertEqual(told[1:], before)
+            reals = [("real", p, j) for p in range(m) for j in range(n)]
+            parts = [("part", p, j) for p in range(m) for j in range(n)]
+            told = ask_behind(calls, ("rings",), *reals, ("settle",), *parts, ("plain",), ("holding",))
+            if told[0] == [0]:
+                nothing_lost += 1
+                self.assertEqual(told[len(reals) + 1], [0])
+                self.assertEqual(told[len(reals) + 2:-2], told[1:len(reals) + 1])
+                self.assertEqual(told[-2:], [[1], [0]])
+            self.assertEqual(told[len(reals) + 1], told[-1][:1])
+        self.assertGreater(nothing_lost, 50)
 
-    def test_a_hold_of_too_much_changes_nothing(self):
-        calls = (("begin", 2, 2), ("hold", 0, 0, 1, 3), ("hold", 3, 0, 1, 3), ("hold", 2, 1, 1, 1))
-        questions = (("holders", 0), ("holders", 1), ("owned", 0), ("strewn", 0))
-        before = ask_behind(calls, *questions)
-        for call in (("hold", 0, 0, 67, 100), ("hold", 1, 0, 1, 1), ("hold", 0, 1, 1, 100)):
-            told = ask_behind(calls, call, *questions)
-            self.assertEqual(told, [[-33]] + before)
+    def test_taken_back_all_is_as_it_was(self):
+        for seed in range(600, 700):
+            m, n, calls = made_up(seed)
+            before = ask_behind(calls, *everything(m, n))
+            for change in self.changes(m, n)[1:]:
+                told = ask_behind(calls, *change, *everything(m, n))
+                if told[1:] != before:
+                    told = ask_behind(calls, *change, ("back",), *everything(m, n))
+                    self.assertEqual(told[2:], before)
 
 
 if __name__ == "__main__":

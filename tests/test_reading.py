@@ -12,6 +12,8 @@ ARGUMENTS = {
     "lacking": (0, 0), "sell": (0, 1, 0, 1, 2), "cancel": (0,), "hand": (0,), "inring": (0,),
     "wouldhand": (0, 0), "own": ([7],), "take": (0, 0),
 }
+# Where nobody holds anything nobody owns or rules, and nothing can be sold.
+NONE_THERE = ("greatest", "ruler", "sell")
 EVERY_OTHER = [(name, *ARGUMENTS.get(name, ())) for name in NAMES[1:]]
 
 
@@ -44,13 +46,16 @@ class Layout(unittest.TestCase):
         self.assertEqual(ask(*calls), [[0]] + [[4, 5]] * 49)
 
     def test_whole_numbers_alone(self):
-        told = answers(flat(
-            ("begin", 1, 2), ("hold", 0, 0, 1, 1), ("hold", 2, 1, 1, 1), ("part", 0, 0), ("rings",), ("closed",),
-            ("greatest", 0), ("owned", 0), ("holders", 0), ("ruler", 0), ("rules", 0), ("selfruled",), ("free",),
-            ("quorum", 1, 1), ("prices", [1, 1]), ("votes", 0), ("state",), ("begin", 9, 9),
-        ))
+        told = answers(flat(("begin", 1, 1), *EVERY_OTHER, ("inring", 0), ("plain",), ("begin", 9, 9)))
         self.assertIs(type(told), list)
         self.assertEqual({type(number) for number in told}, {int})
+
+    def test_every_call_behind_a_begin(self):
+        before = (("begin", 2, 1),)
+        for name, *given in EVERY_OTHER:
+            answer, state = ask(*before, (name, *given), ("state",))[1:]
+            self.assertIn(answer[0], [-6] if name == "back" else [-33] if name in NONE_THERE else [0, 1, 2, 3], name)
+            self.assertEqual(state, [2, 1])
 
 
 class Begin(unittest.TestCase):
@@ -94,8 +99,11 @@ class Begin(unittest.TestCase):
 
 class NothingKept(unittest.TestCase):
     CALLS = flat(
-        ("begin", 2, 2), ("hold", 0, 0, 1, 2), ("hold", 3, 0, 1, 2), ("quorum", 1, 1), ("prices", [3, 4]),
-        ("real", 0, 0), ("rings",), ("holders", 0), ("free",),
+        ("begin", 2, 2), ("hold", 0, 0, 1, 2), ("hold", 3, 0, 1, 2), ("hold", 2, 1, 1, 4), ("quorum", 1, 1),
+        ("prices", [3, 4]), ("own", [5, 6]), ("real", 0, 0), ("rings",), ("holders", 0), ("free",), ("books",),
+        ("worths",), ("bookworths",), ("together", 3), ("least", 0), ("weight", 0, 0), ("lacking", 0, 0),
+        ("cheapest", 0, 0), ("wouldhand", 0, 1), ("inring", 0), ("holding",), ("plain",), ("sell", 0, 1, 0, 1, 7),
+        ("take", 1, 0), ("back",), ("cancel", 0), ("hand", 0), ("settle",), ("back",), ("take", 0, 1), ("holders", 1),
     )
 
     def test_what_is_handed_in_is_not_changed(self):

@@ -1,6 +1,7 @@
 """Who really owns: each part is passed on till it stays with a person, is strewn, or goes round for ever."""
 
-from wholeowns.ratios import ONE, ZERO, divided, minus, plus, times, total
+from wholeowns.passing import untangled
+from wholeowns.ratios import total
 
 
 # What is strewn stays where it is, as with a person: it stands behind the holders as one more of them.
@@ -8,32 +9,9 @@ def full_row(holdings, j):
     return list(holdings.parts[j]) + [holdings.strewn_of(j)]
 
 
-# What comes back to a company goes out again by the same parts, so in the end the others have it in proportion.
-def without_own(row, own):
-    left = minus(ONE, row[own])
-    spread = [divided(part, left) for part in row]
-    spread[own] = ZERO
-    return spread
-
-
-def passed_on(row, by, onward):
-    share = row[by]
-    kept = list(row)
-    kept[by] = ZERO
-    return [plus(part, times(share, further)) for part, further in zip(kept, onward)]
-
-
-# A company whose parts all come back to itself by then passes nothing on: what reaches it is lost, and stays in
-# its column. Every other company's column is empty at the end.
+# What is lost stays in the columns of the companies that pass nothing on.
 def end_rows(holdings):
-    rows = [full_row(holdings, j) for j in range(holdings.companies)]
-    for j in range(holdings.companies):
-        by = holdings.holder_of(j)
-        if rows[j][by] != ONE:
-            onward = without_own(rows[j], by)
-            rows[j] = onward
-            rows = [passed_on(row, by, onward) for row in rows]
-    return rows
+    return untangled([full_row(holdings, j) for j in range(holdings.companies)], holdings.people)
 
 
 def really_owned(holdings, p, j):

@@ -19,7 +19,11 @@ def ratio(upper, lower):
     return (upper // divisor, lower // divisor)
 
 
-# Holding and the quorum take a fraction by the same rule, before it may be made into one.
+def whole(number):
+    return (number, 1)
+
+
+# Holding, selling and the quorum take a fraction by the same rule, before it may be made into one.
 def is_proper(a, b):
     return 1 <= b <= MOST_LOWER and a <= b
 
@@ -50,3 +54,7 @@ def total(fractions):
 
 def is_above(one, other):
     return one[0] * other[1] > other[0] * one[1]
+
+
+def lesser(one, other):
+    return other if is_above(one, other) else one

@@ -1,7 +1,6 @@
 """How the list of calls is read: a call's number, its whole numbers, then its row behind how many it has."""
 
-# How many whole numbers stand behind each call's number. A call that isn't built yet has its place here too:
-# before a begin it is answered like every other one, and the calls behind it must be found.
+# How many whole numbers stand behind each call's number.
 WHOLE_NUMBERS = {
     0: 2, 1: 4, 2: 2, 3: 1, 4: 2, 5: 1, 6: 1, 7: 0, 8: 0, 9: 1,
     10: 1, 11: 1, 12: 0, 13: 2, 14: 0, 15: 1, 16: 1, 17: 1, 18: 0, 19: 0,

@@ -1,29 +1,25 @@
 """The calls on one object, one behind another, and what they answer."""
 
+from wholeowns.buycalls import buy_doer
 from wholeowns.holdings import Holdings, may_begin
 from wholeowns.owncalls import own_doer
 from wholeowns.partcalls import part_doer
 from wholeowns.reading import split_calls
 from wholeowns.refusals import BEFORE_BEGIN, NOT_RIGHT
 from wholeowns.rulecalls import rule_doer
+from wholeowns.untiecalls import untie_doer
+from wholeowns.worthcalls import worth_doer
 
 BEGIN = 0
 
 
-# A call of the document that isn't built yet: better no answers at all than a wrong one among them.
-class NotBuilt(Exception):
-    pass
-
-
+# Each call but begin is in one of these alone.
 def find_doer(number):
-    doer = part_doer(number)
-    if doer is None:
-        doer = own_doer(number)
-    if doer is None:
-        doer = rule_doer(number)
-    if doer is None:
-        raise NotBuilt(f"call {number} is not built yet")
-    return doer
+    found = [
+        part_doer(number), own_doer(number), worth_doer(number), rule_doer(number), buy_doer(number),
+        untie_doer(number),
+    ]
+    return [doer for doer in found if doer is not None][0]
 
 
 def answer_call(holdings, number, given):
@@ -34,7 +30,9 @@ def answer_call(holdings, number, given):
         return doer(holdings, given[0])
     if len(given) == 2:
         return doer(holdings, given[0], given[1])
-    return doer(holdings, given[0], given[1], given[2], given[3])
+    if len(given) == 4:
+        return doer(holdings, given[0], given[1], given[2], given[3])
+    return doer(holdings, given[0], given[1], given[2], given[3], given[4])
 
 
 def answers(calls):

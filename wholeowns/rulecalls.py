@@ -3,13 +3,8 @@
 from wholeowns.layout import counted, with_fraction
 from wholeowns.ratios import is_proper, ratio
 from wholeowns.refusals import CANNOT_BE, NO_SUCH, NOT_RIGHT
-from wholeowns.ruling import ruled_by, ruler_of, self_ruled, votes_of
-
-MOST_OF_EACH = 1000
-
-
-def is_for_each(holdings, of_each):
-    return len(of_each) == holdings.companies and max(of_each) <= MOST_OF_EACH
+from wholeowns.ruling import (
+    is_set, least_sets, members, ruled_by, ruler_of, self_ruled, votes_of, weight_of)
 
 
 def answer_quorum(holdings, a, b):
@@ -20,7 +15,7 @@ def answer_quorum(holdings, a, b):
 
 
 def answer_prices(holdings, of_each):
-    if not is_for_each(holdings, of_each):
+    if not holdings.is_for_each(of_each):
         return [NOT_RIGHT]
     holdings.prices = list(of_each)
     return [0]
@@ -59,6 +54,24 @@ def answer_free(holdings):
     ])
 
 
+def answer_together(holdings, s):
+    if not is_set(holdings, s):
+        return [NOT_RIGHT]
+    return counted(ruled_by(holdings, members(holdings, s)))
+
+
+def answer_least(holdings, j):
+    if not holdings.has_company(j):
+        return [NO_SUCH]
+    return counted(least_sets(holdings, j))
+
+
+def answer_weight(holdings, p, j):
+    if not holdings.has_person(p) or not holdings.has_company(j):
+        return [NO_SUCH]
+    return [weight_of(holdings, p, j)]
+
+
 RULE_CALLS = {
     13: answer_quorum,
     14: answer_prices,
@@ -67,6 +80,9 @@ RULE_CALLS = {
     17: answer_ruler,
     18: answer_selfruled,
     19: answer_free,
+    20: answer_together,
+    21: answer_least,
+    22: answer_weight,
 }
 
 

@@ -22,8 +22,15 @@ def have_quorum(holdings, j, people, companies):
     return not is_above(needed, held_together(holdings, j, people, companies))
 
 
-def ruled_by(holdings, people):
-    ruled = []
+def lacking_of(holdings, j, people, companies):
+    needed = times(holdings.quorum, votes_of(holdings, j))
+    held = held_together(holdings, j, people, companies)
+    return minus(needed, held) if is_above(needed, held) else ZERO
+
+
+# Whoever is ruled already stays so, and what these companies hold counts from the first step on.
+def ruled_with(holdings, people, already):
+    ruled = list(already)
     while True:
         fresh = [
             j for j in range(holdings.companies)
@@ -32,6 +39,10 @@ def ruled_by(holdings, people):
         if len(fresh) == 0:
             return ruled
         ruled = sorted(ruled + fresh)
+
+
+def ruled_by(holdings, people):
+    return ruled_with(holdings, people, [])
 
 
 # At most one is found: two would need more than all of its votes, as the quorum is above one half.
@@ -50,3 +61,43 @@ def self_ruled(holdings):
         if kept == left:
             return left
         left = kept
+
+
+# A set of people is one number, in which person p counts 2 to the power of p.
+def is_set(holdings, s):
+    return s < (1 << holdings.people)
+
+
+def has_member(s, p):
+    return (s & (1 << p)) != 0
+
+
+def without_member(s, p):
+    return s - (1 << p)
+
+
+def members(holdings, s):
+    return [p for p in range(holdings.people) if has_member(s, p)]
+
+
+def ruling_sets(holdings, j):
+    return [s for s in range(1 << holdings.people) if j in ruled_by(holdings, members(holdings, s))]
+
+
+def sets_that_need(ruling, p):
+    return [s for s in ruling if has_member(s, p) and without_member(s, p) not in ruling]
+
+
+# With fewer people never more is ruled, so it is enough to try without each single one.
+def least_sets(holdings, j):
+    ruling = ruling_sets(holdings, j)
+    least = ruling
+    for p in range(holdings.people):
+        needing = sets_that_need(ruling, p)
+        least = [s for s in least if not has_member(s, p) or s in needing]
+    return least
+
+
+# Each set that rules with the person and not without them stands for the others in it.
+def weight_of(holdings, p, j):
+    return len(sets_that_need(ruling_sets(holdings, j), p))
